@@ -952,16 +952,11 @@ func TestDoAsTheChapterSays(t *testing.T) {
 func TestDoOfSmallBoxes(t *testing.T) {
 	for epoch := 1; epoch < 3; epoch++ {
 		for pair := range 3 {
-			eachSmallMinder(func(m impl.Minder) {
-				if !impl.MinderOk(m) {
-					return
-				}
-				for _, other := range []impl.Minder{{Life: 2}, {Up: true, Life: 2, Log: logOf(1, 1)}, {Up: true, Life: 1, Epoch: 1, Log: logOf(2, 1), Said: 1, Acked: 1, AckLife: 2}} {
-					x := impl.Box{Id: 5, Ports: 4, Reg: regOf(epoch, 1, pair), Two: []impl.Minder{m, other}, Gates: make([]bool, 4), Line: logOf(1, 1), Net: []impl.Wire{wireOf(1, 2, 1, tickIn()), wireOf(0, 1, 0, tickIn()), ackWire(1, 2, 1), ackWire(0, 1, 2)}}
-					for _, y := range []impl.Box{x, boxBent(x, func(x *impl.Box) { x.Reg.Owner = 0 })} {
-						for _, d := range deedsFor(y) {
-							wantDoAsPlain(t, y, d)
-						}
+			eachSmallCouple(func(m impl.Minder, other impl.Minder) {
+				x := impl.Box{Id: 5, Ports: 4, Reg: regOf(epoch, 1, pair), Two: []impl.Minder{m, other}, Gates: make([]bool, 4), Line: logOf(1, 1), Net: []impl.Wire{wireOf(1, 2, 1, tickIn()), wireOf(0, 1, 0, tickIn()), ackWire(1, 2, 1), ackWire(0, 1, 2)}}
+				for _, y := range []impl.Box{x, boxBent(x, func(x *impl.Box) { x.Reg.Owner = 0 })} {
+					for _, d := range deedsFor(y) {
+						wantDoAsPlain(t, y, d)
 					}
 				}
 			})
@@ -970,6 +965,19 @@ func TestDoOfSmallBoxes(t *testing.T) {
 			}
 		}
 	}
+}
+
+// eachSmallCouple goes through minders of small numbers, each beside one that fell, one that follows and one that minds.
+func eachSmallCouple(look func(m impl.Minder, other impl.Minder)) {
+	others := []impl.Minder{{Life: 2}, {Up: true, Life: 2, Log: logOf(1, 1)}, {Up: true, Life: 1, Epoch: 1, Log: logOf(2, 1), Said: 1, Acked: 1, AckLife: 2}}
+	eachSmallMinder(func(m impl.Minder) {
+		if !impl.MinderOk(m) {
+			return
+		}
+		for _, other := range others {
+			look(m, copyMinder(other))
+		}
+	})
 }
 
 func TestDoAllOfNone(t *testing.T) {
